@@ -1014,17 +1014,29 @@ func TestSessionsBesideEachOther(t *testing.T) {
 			if !strings.HasSuffix(out, "E04formB00") {
 				expectList(t, before, held, list, answer{v, holding(sessions[who], ""), out})
 			}
-			for _, l := range parse(t, out) {
-				counts[l.Sign]++
-				counts[l.Sign+l.Body]++
-			}
+			countLetters(t, counts, out)
 			if t.Failed() {
 				t.FailNow()
 			}
 		}
 	}
-	for _, name := range []string{"R", "Cfine", "Eform", "Elate", "Efull", "Enone", "Ebad", "Eover", "Zi", "Zt", "Ze", "1", "B"} {
-		if counts[name] < 20 {
+	expectSentOften(t, counts, 20, "R", "Cfine", "Eform", "Elate", "Efull", "Enone", "Ebad", "Eover", "Zi", "Zt", "Ze", "1", "B")
+}
+
+// countLetters counts the messages that were sent, by their types alone and with their bodies.
+func countLetters(t *testing.T, counts map[string]int, out string) {
+	t.Helper()
+	for _, l := range parse(t, out) {
+		counts[l.Sign]++
+		counts[l.Sign+l.Body]++
+	}
+}
+
+// expectSentOften expects that each of some messages was sent often enough to have been tested.
+func expectSentOften(t *testing.T, counts map[string]int, least int, names ...string) {
+	t.Helper()
+	for _, name := range names {
+		if counts[name] < least {
 			t.Errorf("%q was sent only %d times", name, counts[name])
 		}
 	}
@@ -1138,6 +1150,12 @@ func TestNoGoroutineIsLeft(t *testing.T) {
 			impl.TalkFeed(store(-1), impl.Talk{}, bytes)
 		}
 	}
+	expectGoroutines(t, before)
+}
+
+// expectGoroutines expects that there are no more goroutines than before.
+func expectGoroutines(t *testing.T, before int) {
+	t.Helper()
 	// One that has nothing left to do may still be counted for a moment.
 	for range 100 {
 		if runtime.NumGoroutine() <= before {
